@@ -1,0 +1,1 @@
+"""Manyquills: one text written by hands apart."""
