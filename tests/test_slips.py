@@ -122,6 +122,10 @@ class Refused(unittest.TestCase):
         self.assert_refused(Backwards, rows, put((2, 1), (2, 2), "b"))
         self.assertEqual(len(heard(rows, put((2, 3), (2, 2), "b"))), 2)
 
+    def test_backwards_where_the_beginning_is_put_behind_itself(self):
+        for rows in ([], TREE_ROWS):
+            self.assert_refused(Backwards, rows, put(BEGINNING, BEGINNING, "a"))
+
     def test_backwards_with_numbers_of_a_hundred_figures(self):
         rows = [((HUGE, HUGE - 1), BEGINNING, "a", False)]
         self.assert_refused(Backwards, rows, put((HUGE - 1, HUGE), (HUGE, HUGE - 1), "b"))
