@@ -1,7 +1,8 @@
-"""What several tests need: sheets, and the order of point 7 told apart from the program."""
+"""What several tests need: sheets, and the order of point 7 and whole stories told apart from the program."""
 
 BEGINNING = (0, 0)
 HUGE = 10 ** 100 - 1
+SIGNS = "".join(chr(code) for code in range(ord(" "), ord("~") + 1)).replace("%", "")
 
 
 def put(tag, behind, sign):
@@ -102,3 +103,61 @@ TREE_ROWS = [
     ((2, 1), (1, 1), "b", False),
     ((3, 1), (2, 1), "h", False),
 ]
+
+
+def told_again(many, deeds):
+    """A story told apart from the program, by points 13, 14, 17 and 18: the answers, and the slips of each hand.
+
+    A sheet is made anew by `ordered` from the slips each time, and whether a slip is refused is asked by `is_takeable`.
+    """
+    kept = {number: [] for number in range(1, many + 1)}
+
+    def live(number):
+        return [row[0] for row in ordered(kept[number]) if not row[3]]
+
+    def told(taker, slip):
+        if slip in kept[taker]:
+            return False
+        if not is_takeable(slip, {other[1] for other in kept[taker] if other[0] == "put"}):
+            return None
+        kept[taker].append(slip)
+        return True
+
+    def answer(kind, hand, *more):
+        if kind == "write":
+            place, signs = more
+            count = max([slip[1][0] for slip in kept[hand]], default=0)
+            behinds = [([BEGINNING] + live(hand))[min(place, len(live(hand)))]]
+            behinds += [(count + step, hand) for step in range(1, len(signs))]
+            made = [put((count + step, hand), behinds[step - 1], sign) for step, sign in enumerate(signs, start=1)]
+            kept[hand].extend(made)
+            return made
+        if kind == "rub":
+            place, number = more
+            made = [cut(tag) for at, tag in enumerate(live(hand)) if place <= at < place + number]
+            kept[hand].extend(made)
+            return made
+        if kind == "tell":
+            taker, which = more
+            return told(taker, kept[hand][which]) if which < len(kept[hand]) else None
+        return [told(more[0], slip) for slip in list(kept[hand])].count(True)
+
+    return [answer(*deed) for deed in deeds], [kept[number] for number in sorted(kept)]
+
+
+def some_deeds(chance, many, number):
+    """Deeds of all kinds, as a seeded source of chance picks them; places and the like partly past what is there."""
+    deeds = []
+    for step in range(number):
+        kind = chance.choice(["write", "write", "rub", "tell", "tell", "share", "share"])
+        hand, other = chance.randint(1, many), chance.randint(1, many)
+        if kind == "write":
+            signs = "".join(chance.choice(SIGNS) for sign in range(chance.choice([0, 1, 1, 2, 3, 5])))
+            deeds.append((kind, hand, chance.choice([0, 1, 2, 3, 7, 20, 10 ** 100]), signs))
+        elif kind == "rub":
+            deeds.append((kind, hand, chance.randint(0, 9), chance.choice([0, 1, 1, 2, 3, 10 ** 100])))
+        elif kind == "tell":
+            deeds.append((kind, hand, other, chance.randint(0, 12)))
+        else:
+            deeds.append((kind, hand, other))
+    return deeds

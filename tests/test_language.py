@@ -122,3 +122,36 @@ class Language(unittest.TestCase):
         for where, node in walked():
             if isinstance(node, ast.Call) and isinstance(node.func, ast.Attribute):
                 self.assertIn(node.func.attr, METHODS | own, where)
+
+    def test_no_name_is_used_for_two_things_in_a_file(self):
+        for path in files():
+            tree = ast.parse(path.read_text())
+            top = [name.name for node in tree.body if isinstance(node, ast.ImportFrom) for name in node.names]
+            top += [node.name for node in tree.body if isinstance(node, (ast.FunctionDef, ast.ClassDef))]
+            top += [node.targets[0].id for node in tree.body if isinstance(node, ast.Assign)]
+            self.assertEqual(len(top), len(set(top)), path)
+            for function in ast.walk(tree):
+                if isinstance(function, ast.FunctionDef):
+                    own = [node.arg for node in ast.walk(function) if isinstance(node, ast.arg)]
+                    own += [node.id for node in ast.walk(function)
+                            if isinstance(node, ast.Name) and isinstance(node.ctx, ast.Store)]
+                    self.assertEqual(set(own) & set(top), set(), (path, function.name))
+
+    def test_no_two_files_draw_from_one_another(self):
+        drawn = {path.stem: {node.module.split(".")[1] for node in ast.parse(path.read_text()).body
+                             if isinstance(node, ast.ImportFrom)} for path in files()}
+        while drawn:
+            free = [name for name in drawn if not drawn[name] & set(drawn)]
+            self.assertNotEqual(free, [], drawn)
+            drawn = {name: drawn[name] for name in drawn if name not in free}
+
+    def test_names_of_own_methods_and_values(self):
+        taken = {name for kind in (str, int, list, dict, set, bytes) for name in dir(kind)}
+        methods, values = set(), set()
+        for where, node in walked():
+            if isinstance(node, ast.ClassDef):
+                methods |= {part.name for part in node.body if isinstance(part, ast.FunctionDef)} - set(SPECIAL)
+            if isinstance(node, ast.Attribute) and isinstance(node.ctx, ast.Store):
+                values.add(node.attr)
+        self.assertEqual(methods & values, set())
+        self.assertEqual((methods | values) & taken, set())

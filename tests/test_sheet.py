@@ -3,9 +3,7 @@ import unittest
 
 from manyquills.errors import NotYet
 from manyquills.sheet import block, laid, words
-from tests.sheets import BEGINNING, HUGE, TREE_ROWS, TREE_SLIPS, cut, hangs, ordered, put, takeable
-
-SIGNS = "".join(chr(code) for code in range(ord(" "), ord("~") + 1)).replace("%", "")
+from tests.sheets import BEGINNING, HUGE, SIGNS, TREE_ROWS, TREE_SLIPS, cut, hangs, ordered, put, takeable
 
 
 def chain(length):
