@@ -8,7 +8,8 @@ from manyquills.hand import Hand
 FUNCTIONS = {
     "tags": {"later": ["one", "other"], "fresh": ["rows", "number"]},
     "sheet": {
-        "heard": ["rows", "slip"], "laid": ["slips"], "words": ["rows"], "block": ["rows", "tag"], "stretches": ["rows"],
+        "heard": ["rows", "slip"], "laid": ["slips"], "words": ["rows"], "block": ["rows", "tag"],
+        "stretches": ["rows"],
     },
     "lines": {"shown": ["slip"], "read": ["line"]},
     "hand": {

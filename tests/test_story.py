@@ -107,14 +107,15 @@ class WriteAndRub(unittest.TestCase):
 
 class Tell(unittest.TestCase):
     def test_new_and_known(self):
-        deeds = [WRITE_ABC, ("tell", 1, 2, 0), ("tell", 1, 2, 1), ("tell", 1, 2, 0), ("tell", 1, 2, 2), ("tell", 1, 2, 2)]
+        deeds = [WRITE_ABC] + [("tell", 1, 2, which) for which in (0, 1, 0, 2, 2)]
         answers = story(2, deeds)[1:]
         self.assertEqual(answers, [True, True, False, True, False])
         self.assertEqual([type(answer) for answer in answers], [bool] * 5)
         self.assertEqual(held(2, deeds), [[A, B, C], [A, B, C]])
 
     def test_which_counts_in_the_order_in_which_the_giver_keeps_them(self):
-        deeds = [("write", 2, 0, "x"), WRITE_ABC, ("tell", 1, 2, 0), ("rub", 2, 1, 1), ("tell", 2, 3, 1), ("tell", 2, 3, 2)]
+        deeds = [("write", 2, 0, "x"), WRITE_ABC, ("tell", 1, 2, 0), ("rub", 2, 1, 1)]
+        deeds = deeds + [("tell", 2, 3, 1), ("tell", 2, 3, 2)]
         self.assertEqual(held(3, deeds)[1], [put((1, 2), BEGINNING, "x"), A, cut((1, 1))])
         self.assertEqual(story(3, deeds)[4:], [True, True])
         self.assertEqual(held(3, deeds)[2], [A, cut((1, 1))])
@@ -200,7 +201,8 @@ class Share(unittest.TestCase):
         self.assertEqual(texts(3, deeds), ["abcd"] * 3)
 
     def test_next_tag_after_sharing(self):
-        deeds = [WRITE_ABC, ("rub", 1, 2, 1), ("share", 1, 2), ("write", 2, 1, "xy"), ("share", 2, 1), ("write", 1, 0, "z")]
+        deeds = [WRITE_ABC, ("rub", 1, 2, 1), ("share", 1, 2), ("write", 2, 1, "xy")]
+        deeds = deeds + [("share", 2, 1), ("write", 1, 0, "z")]
         self.assertEqual(story(2, deeds)[3], [put((4, 2), (1, 1), "x"), put((5, 2), (4, 2), "y")])
         self.assertEqual(story(2, deeds)[5], [put((6, 1), BEGINNING, "z")])
 
